@@ -59,12 +59,15 @@ func spoilBytes(b []byte) {
 }
 
 // room is where a list lies, its spare room included.
-type room struct{ from, to uintptr }
+type room struct {
+	from, to uintptr
+	list     any // which is held, so that no other one comes to lie there
+}
 
 func roomOf[T any](l []T) room {
 	var one T
 	from := uintptr(unsafe.Pointer(unsafe.SliceData(l)))
-	return room{from, from + uintptr(cap(l))*unsafe.Sizeof(one)}
+	return room{from, from + uintptr(cap(l))*unsafe.Sizeof(one), l}
 }
 
 // rooms are those of all lists of a transaction.
